@@ -9,7 +9,7 @@ import (
 	"tollgate/raft"
 )
 
-// P11.4: messages that are not right, or not for this core, of each kind: ErrArg, and nothing else.
+// P11.4: messages that are not right, or not for this core, of each kind: ErrArg, the core's Hard, and nothing else.
 func TestTakeWrong(t *testing.T) {
 	good := api.Msg{From: 2, To: 1, Term: 9, Index: 1, LogTerm: 2, Data: snapOf(t, 1, 2, three)}
 	wrong := map[string]func(m *api.Msg){

@@ -186,11 +186,12 @@ func probed(c *raft.Core, id int) string {
 	return b.String()
 }
 
-// wantOnly: of core 1 that error and nothing else, and nothing has changed.
+// wantOnly: of core 1 that error, its Hard (P11.2) and nothing else, and nothing has changed.
 func wantOnly(t *testing.T, what string, c *raft.Core, e api.Errno, do func() api.Output) {
 	t.Helper()
 	before := probed(c, 1)
-	want(t, what, do(), api.Output{E: e})
+	hard := c.View().Hard
+	want(t, what, do(), api.Output{E: e, Hard: hard})
 	if probed(c, 1) != before {
 		t.Errorf("%s: refused, and yet something has changed", what)
 	}

@@ -228,11 +228,11 @@ func (m *model) lookReads() {
 	m.wait = still
 }
 
-// step is what a step tells; with an error that alone.
+// step is what a step tells; with an error that and Hard alone.
 func (m *model) step(draw int, do func() api.Errno) api.Output {
 	m.draw, m.out = draw, api.Output{}
 	if e := do(); e != api.OK {
-		return api.Output{E: e}
+		m.out = api.Output{E: e}
 	}
 	m.out.Hard = api.Hard{Term: m.term, Vote: m.vote}
 	return m.out

@@ -23,6 +23,41 @@ func TestOnlyLeaders(t *testing.T) {
 	}
 }
 
+// P11.2: a step that is refused tells the core's Hard: the one that it began with, and the one of now behind a later term and a vote.
+func TestRefusedStepsTellHard(t *testing.T) {
+	c := core(t, begin(voters(2), api.Hard{Term: 3, Vote: 2}))
+	refused := func(hard api.Hard) {
+		t.Helper()
+		want(t, "Propose", c.Propose([]byte("x")), api.Output{E: api.ErrLeader, Hard: hard})
+		want(t, "Change", c.Change(api.Change{Do: api.Add, Node: 3}), api.Output{E: api.ErrLeader, Hard: hard})
+		want(t, "Read", c.Read(1), api.Output{E: api.ErrLeader, Hard: hard})
+		want(t, "Take of its own", c.Take(api.Msg{Kind: api.Say, From: 1, To: 1}, 0), api.Output{E: api.ErrArg, Hard: hard})
+		want(t, "Take of a later term that is not right", c.Take(api.Msg{Kind: api.AskVote, From: 2, To: 1, Term: 9, Hint: -1}, 0), api.Output{E: api.ErrArg, Hard: hard})
+	}
+	refused(api.Hard{Term: 3, Vote: 2})
+	c.Take(api.Msg{Kind: api.SayVote, From: 2, To: 1, Term: 5}, 0)
+	refused(api.Hard{Term: 5})
+	c.Take(api.Msg{Kind: api.AskVote, From: 4, To: 1, Term: 6}, 0)
+	refused(api.Hard{Term: 6, Vote: 4})
+	refused(api.Hard{Term: 6, Vote: 4})
+}
+
+// P11.2: of a leader each error that a step has.
+func TestRefusedStepsOfLeaderTellHard(t *testing.T) {
+	c := leader(t, begin(api.Members{Voters: []int{1}, Learners: []int{2}}, api.Hard{}))
+	want(t, "too many bytes", c.Propose(make([]byte, api.MaxData+1)), api.Output{E: api.ErrLimit, Hard: first})
+	want(t, "who is behind", c.Change(api.Change{Do: api.Promote, Node: 2}), api.Output{E: api.ErrBusy, Hard: first})
+	want(t, "nobody", c.Change(api.Change{Do: api.Remove, Node: 9}), api.Output{E: api.ErrGone, Hard: first})
+	want(t, "no change", c.Change(api.Change{}), api.Output{E: api.ErrArg, Hard: first})
+	want(t, "a message of its own", c.Take(api.Msg{Kind: api.Say, From: 1, To: 1}, 0), api.Output{E: api.ErrArg, Hard: first})
+	for range api.MaxLog {
+		c.Propose(nil)
+	}
+	want(t, "a full log", c.Propose(nil), api.Output{E: api.ErrBusy, Hard: first})
+	young := leader(t, begin(three, api.Hard{Term: 7, Vote: 3}))
+	want(t, "a read too early", young.Read(1), api.Output{E: api.ErrBusy, Hard: api.Hard{Term: 8, Vote: 1}})
+}
+
 // P11.3: nil, empty and MaxData bytes, and one more.
 func TestPropose(t *testing.T) {
 	c := leader(t, begin(api.Members{Voters: []int{1, 3}, Learners: []int{2}}, api.Hard{}))

@@ -93,9 +93,7 @@ func (w *world) told(n int, what string, got, want api.Output) {
 	if shown(got) != shown(want) {
 		w.t.Fatalf("node %d, %s:\n%s\nwant\n%s", n, what, shown(got), shown(want))
 	}
-	if got.E == api.OK {
-		w.keep(n, got)
-	}
+	w.keep(n, got)
 	for _, m := range got.Msgs {
 		if len(w.under) < 60 {
 			w.under = append(w.under, clonedMsg(m))

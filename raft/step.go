@@ -30,14 +30,14 @@ type step struct {
 	out  api.Output
 }
 
-// stepped is what a step tells: with an error that alone.
+// stepped is what a step tells. One that is refused tells the core's Hard too, so that whoever keeps what a step tells never forgets a term or a vote.
 func (c *Core) stepped(draw int, do func(s *step) api.Errno) api.Output {
 	if c == nil {
 		return api.Output{E: api.ErrNil}
 	}
 	s := &step{Core: c, draw: draw}
 	if e := do(s); e != api.OK {
-		return api.Output{E: e}
+		return api.Output{E: e, Hard: c.hard}
 	}
 	s.out.Hard = c.hard
 	return s.out
