@@ -395,9 +395,8 @@ func TestTags(t *testing.T) {
 	want(t, "tags", tags, []int{1, 2, 3, 4})
 	want(t, "the fourth client's was not tried", []int{record(d, 3).Index, record(d, 4).To}, []int{2, 0})
 	tried(t, d, 4, 1)
-	told := d.Do(deliver(0))
-	told = d.Do(deliver(1))
-	want(t, "the next tag", told.Reads, []api.Read{{Tag: 5, Index: 2}})
+	d.Do(deliver(0))
+	want(t, "the next tag", d.Do(deliver(1)).Reads, []api.Read{{Tag: 5, Index: 2}})
 	explained(t, d)
 }
 

@@ -6,6 +6,7 @@ import (
 	"testing"
 
 	"tollgate/api"
+	"tollgate/cluster"
 	"tollgate/conf"
 	"tollgate/member"
 )
@@ -126,10 +127,7 @@ func TestTickAndDeliver(t *testing.T) {
 
 // P13.2: the draws of Tick, of Deliver and of Start say how long a node waits then.
 func TestDraws(t *testing.T) {
-	waits := func(c interface {
-		Do(s api.Step) api.Told
-		Under() []api.Packet
-	}, n int) int {
+	waits := func(c *cluster.Cluster, n int) int {
 		ticks := 0
 		for len(c.Under()) == 0 && ticks < 99 {
 			c.Do(tick(n))
