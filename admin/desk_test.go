@@ -434,7 +434,9 @@ func TestDo(t *testing.T) {
 		want(t, "Do", d.Do(api.Step{Kind: kind, Node: 9}), api.Told{E: api.ErrArg})
 	}
 	for _, kind := range []api.StepKind{math.MinInt, -1, api.NoStep, api.Ask + 1, math.MaxInt} {
-		want(t, "Do", d.Do(api.Step{Kind: kind, Node: 1}), api.Told{E: api.ErrArg})
+		for _, n := range []int{math.MinInt, -1, 0, 1, 2, 3, math.MaxInt} {
+			want(t, "a kind that is none", d.Do(api.Step{Kind: kind, Node: n}), api.Told{E: api.ErrArg, Node: n})
+		}
 	}
 	want(t, "behind them", whole(d, 2), before)
 	told := d.Do(api.Step{Kind: api.Reform, Node: 1, Change: api.Change{Do: api.Add, Node: 3}})

@@ -86,7 +86,7 @@ func (m *model) do(s api.Step) api.Told {
 	case api.Start:
 		return m.start(s)
 	}
-	return api.Told{E: api.ErrArg}
+	return api.Told{E: api.ErrArg, Node: s.Node}
 }
 
 func (m *model) deliver(s api.Step) api.Told {

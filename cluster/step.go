@@ -37,7 +37,8 @@ func (c *Cluster) Do(s api.Step) api.Told {
 			return a.do(c, s)
 		}
 	}
-	return api.Told{E: api.ErrArg}
+	// Only of kinds that are named is the node another one than the step's, or none.
+	return api.Told{E: api.ErrArg, Node: s.Node}
 }
 
 // on has a node do a step, and sends what it says. What can't be sent is lost, as on any way.

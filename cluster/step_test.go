@@ -27,7 +27,7 @@ func turnEntry(t *testing.T, term, index int, do api.Do, who int) api.Entry {
 
 func noop(term, index int) api.Entry { return api.Entry{Kind: api.Noop, Term: term, Index: index} }
 
-// P13.2: kinds that are none change nothing, whatever else the step says.
+// P13.2: kinds that are none change nothing, whatever else the step says; the step's node is told, if there is one such or not.
 func TestKinds(t *testing.T) {
 	c := made(t, 3, roomy)
 	for range 13 {
@@ -35,12 +35,24 @@ func TestKinds(t *testing.T) {
 	}
 	before := whole(c)
 	for _, kind := range []api.StepKind{math.MinInt, -1, api.NoStep, api.Ask + 1, api.Ask + 2, math.MaxInt} {
-		for n := range 5 {
+		for _, n := range []int{math.MinInt, -1, 0, 1, 2, 3, 4, api.MaxNode + 1, math.MaxInt} {
 			s := api.Step{Kind: kind, Node: n, To: 1, Draw: 3, Tag: 4, Keep: []int{1}, Command: putPool("p"), Change: api.Change{Do: api.Add, Node: 4}}
-			want(t, "Do", c.Do(s), api.Told{E: api.ErrArg})
+			want(t, shown(s), c.Do(s), api.Told{E: api.ErrArg, Node: n})
 		}
 	}
 	want(t, "behind them", whole(c), before)
+}
+
+// P13.2: kinds that are none, of a node that is down: the kind's error is named first.
+func TestKindsDown(t *testing.T) {
+	for nodes := 1; nodes <= api.MaxNodes; nodes++ {
+		c := made(t, nodes, 0)
+		for _, kind := range []api.StepKind{-1, api.NoStep, api.Ask + 1} {
+			for n := range nodes + 2 {
+				want(t, "Do", c.Do(api.Step{Kind: kind, Node: n}), api.Told{E: api.ErrArg, Node: n})
+			}
+		}
+	}
 }
 
 // P13.2: nodes that there are not, and nodes that are down, for every step of a node; the node is told.
